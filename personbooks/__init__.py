@@ -1,0 +1,1 @@
+"""One book for each person: which of those spoken of are one, by everything that's been told."""
