@@ -1,10 +1,10 @@
-"""The run: the joins that evidence makes, the groups they leave, and the clash that is told.
+"""The run: the joins that evidence makes, and the groups they leave.
 
 Labels are a list with one number for each who's spoken of: two have the same label
-if they're one and the same, or joined. A label is the least one of its group.
+if they're one and the same, or joined. Those of a run are each the least one of its group.
 """
 
-from personbooks.papers import BOTH, DIFFER, IF, KEY, LINK, SAME, SINGLE
+from personbooks.callnumbers import BOTH, IF, KEY, LINK, SAME
 
 # Stands as e2 where a join or a clash is by one piece alone.
 ALONE = -1
@@ -20,38 +20,57 @@ def pairs_in_order(count):
     return pairs
 
 
-def whom_by_one(labels, piece):
-    """The two whom this piece alone makes one, or None."""
-    if piece[0] == SAME:
-        return (piece[1], piece[2])
-    if piece[0] == IF and labels[piece[1]] == labels[piece[2]]:
-        return (piece[3], piece[4])
-    if piece[0] == BOTH and labels[piece[1]] == labels[piece[2]] and labels[piece[3]] == labels[piece[4]]:
-        return (piece[5], piece[6])
+def steps_by_one(piece):
+    """The pairs of this piece: the last is one if all ahead of it are. None if it joins nobody by itself."""
+    if piece[0] in (SAME, IF, BOTH):
+        return [(piece[place], piece[place + 1]) for place in range(1, len(piece), 2)]
     return None
 
 
-def whom_by_two(labels, piece, later):
-    """The two whom these two pieces together make one, or None."""
+def steps_by_two(piece, later):
+    """The pairs of these two pieces: the last is one if all ahead of it are. None if they join nobody."""
     if piece[0] == KEY and later[0] == KEY and piece[2] == later[2] and piece[3] == later[3]:
-        return (piece[1], later[1])
-    if piece[0] == LINK and later[0] == LINK and piece[2] == later[2] and labels[piece[1]] == labels[later[1]]:
-        return (piece[3], later[3])
+        return [(piece[1], later[1])]
+    if piece[0] == LINK and later[0] == LINK and piece[2] == later[2]:
+        return [(piece[1], later[1]), (piece[3], later[3])]
     return None
 
 
-def whom(evidence, labels, e, e2):
-    """The two whom e and e2 make one, be they joined already or not, or None."""
+def steps(evidence, e, e2):
+    """The pairs of e and e2: the last is one if all ahead of it are. None if there's never a join by these."""
     if e2 == ALONE:
-        return whom_by_one(labels, evidence[e])
-    return whom_by_two(labels, evidence[e], evidence[e2])
+        return steps_by_one(evidence[e])
+    return steps_by_two(evidence[e], evidence[e2])
 
 
-def first_join(evidence, labels):
-    """The first join that there is, as (e, e2, the one, the other), or None."""
+def rules(evidence):
+    """Every join that may ever be, as (e, e2, its pairs), in the order of joins."""
+    found = []
     for e, e2 in pairs_in_order(len(evidence)):
-        two = whom(evidence, labels, e, e2)
-        if two is not None and labels[two[0]] != labels[two[1]]:
+        pairs = steps(evidence, e, e2)
+        if pairs is not None:
+            found.append((e, e2, pairs))
+    return found
+
+
+def are_one(labels, pair):
+    """Whether these two are one and the same, or joined."""
+    return labels[pair[0]] == labels[pair[1]]
+
+
+def all_ahead_are_one(labels, pairs):
+    """Whether what the last pair hangs on is so."""
+    for pair in pairs[:-1]:
+        if not are_one(labels, pair):
+            return False
+    return True
+
+
+def first_join(ruled, labels):
+    """The first join that there is, as (e, e2, the one, the other), or None."""
+    for e, e2, pairs in ruled:
+        two = pairs[-1]
+        if not are_one(labels, two) and all_ahead_are_one(labels, pairs):
             return (e, e2, two[0], two[1])
     return None
 
@@ -70,13 +89,14 @@ def labels_joined(labels, one, other):
 
 def run_joins(people, evidence):
     """The joins of the run, in their order."""
+    ruled = rules(evidence)
     labels = labels_apart(people)
     joins = []
-    made = first_join(evidence, labels)
+    made = first_join(ruled, labels)
     while made is not None:
         joins.append(made)
         labels = labels_joined(labels, made[2], made[3])
-        made = first_join(evidence, labels)
+        made = first_join(ruled, labels)
     return joins
 
 
@@ -95,25 +115,3 @@ def groups(labels):
         if labels[least] == least:
             found.append([x for x in range(len(labels)) if labels[x] == least])
     return found
-
-
-def clashes_alone(labels, piece):
-    """Whether this piece alone can't be so."""
-    return piece[0] == DIFFER and labels[piece[1]] == labels[piece[2]]
-
-
-def clashes_with(labels, piece, later):
-    """Whether these two pieces can't both be so."""
-    if piece[0] != SINGLE or later[0] != SINGLE:
-        return False
-    return piece[2] == later[2] and piece[3] != later[3] and labels[piece[1]] == labels[later[1]]
-
-
-def told_clash(evidence, labels):
-    """The told clash as (e, e2), by the labels that the run leaves, or None if there's no clash."""
-    for e, e2 in pairs_in_order(len(evidence)):
-        if e2 == ALONE and clashes_alone(labels, evidence[e]):
-            return (e, e2)
-        if e2 != ALONE and clashes_with(labels, evidence[e], evidence[e2]):
-            return (e, e2)
-    return None

@@ -1,14 +1,5 @@
 """What a line of calls has told so far: those spoken of, and the evidence."""
 
-# A piece's kind is the number of the call that tells it.
-SAME = 1
-DIFFER = 2
-LINK = 3
-KEY = 4
-SINGLE = 5
-IF = 6
-BOTH = 7
-
 MOST_PEOPLE = 16
 MOST_EVIDENCE = 30
 

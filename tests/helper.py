@@ -45,9 +45,47 @@ def drop(e):
     return [8, e]
 
 
+def verdict(x, y):
+    return [12, x, y]
+
+
+def why(x, y):
+    return [13, x, y]
+
+
+def whynot(x, y):
+    return [14, x, y]
+
+
+def check(x, y, *pairs):
+    return [15, x, y, len(pairs)] + list(pairs)
+
+
+def core(x, y):
+    return [16, x, y]
+
+
+def known(n, x, y):
+    return [18, n, x, y]
+
+
+def linked(x, f):
+    return [19, x, f]
+
+
+def value(x, k):
+    return [20, x, k]
+
+
+def ways(x, y):
+    return [22, x, y]
+
+
 FITS = [9]
 RUN = [10]
 BOOKS = [11]
+CLASH = [17]
+TOLD = [21]
 
 
 def line(*calls):
@@ -81,6 +119,16 @@ def told(people, *calls):
 def last(people, *calls):
     """The answer to the last of these calls behind as many persons."""
     return told(people, *calls)[-1]
+
+
+def changed(call, place, number):
+    """The call with another number at this place (from 0, its own number not counted)."""
+    return call[:place + 1] + [number] + call[place + 2:]
+
+
+def places(good):
+    """Each place of each of these calls, with the letter that tells what stands there."""
+    return [(call, place, letter) for call, letters in good for place, letter in enumerate(letters)]
 
 
 def groupings(people):
@@ -136,8 +184,8 @@ def slow_books(people, evidence):
     return [len(found)] + [number for group in found for number in [len(group)] + group]
 
 
-def slow_run(people, evidence):
-    """The joins, each the least of all that there are then."""
+def slow_joins(people, evidence):
+    """The joins, each the least of all that there are then, and for each who's spoken of their group."""
     group = {x: frozenset([x]) for x in range(people)}
     made = []
     while True:
@@ -155,12 +203,178 @@ def slow_run(people, evidence):
                     there.append((e, e2, piece[3], other[3]))
         there = [join for join in there if join[3] not in group[join[2]]]
         if not there:
-            return [len(made)] + [number for join in made for number in join]
+            return made, group
         first = min(there)
         made.append(first)
         whole = group[first[2]] | group[first[3]]
         for x in whole:
             group[x] = whole
+
+
+def slow_run(people, evidence):
+    """How many joins, then each."""
+    made = slow_joins(people, evidence)[0]
+    return [len(made)] + [number for join in made for number in join]
+
+
+def slow_clash(people, evidence):
+    """The least of all clashes behind the slow run, or None."""
+    group = slow_joins(people, evidence)[1]
+    there = [(e, -1) for e, piece in enumerate(evidence) if piece[0] == 2 and piece[1] in group[piece[2]]]
+    for (e, piece), (e2, other) in itertools.combinations(enumerate(evidence), 2):
+        if piece[0] == other[0] == 5 and piece[2] == other[2] and piece[3] != other[3] and piece[1] in group[other[1]]:
+            there.append((e, e2))
+    return min(there) if there else None
+
+
+def clash_two(evidence, clash):
+    """The two of whom this clash is: a differ's two, or both singles' x."""
+    e, e2 = clash
+    return tuple(evidence[e][1:3]) if e2 == -1 else (evidence[e][1], evidence[e2][1])
+
+
+def slow_verdict(people, evidence, x, y):
+    """1, 2 or 3 by all groupings that fit, 0 if none does."""
+    one = {grouping[x] == grouping[y] for grouping in fitting(people, evidence)}
+    return {(): 0, (True,): 1, (False,): 2, (False, True): 3}[tuple(sorted(one))]
+
+
+def quick_verdict(people, evidence, x, y):
+    """1, 2 or 3 by the slow run, 0 if evidence clashes; for as many as all groupings are too many of."""
+    if slow_clash(people, evidence):
+        return 0
+    if y in slow_joins(people, evidence)[1][x]:
+        return 1
+    return 2 if slow_clash(people, evidence + [same(x, y)]) else 3
+
+
+def slow_needs(evidence, made, x, y):
+    """The numbers of the joins that the joining of x and y needs, as they stand in the definition."""
+    def way(here, goal, past):
+        if here == goal:
+            return []
+        for number, join in enumerate(made):
+            if number not in past and here in join[2:]:
+                on = way(join[3] if here == join[2] else join[2], goal, past + [number])
+                if on is not None:
+                    return [number] + on
+        return None
+
+    found = set()
+    for number in way(x, y, []):
+        e, e2 = made[number][:2]
+        numbers = evidence[e][1:]
+        ahead = list(zip(numbers[::2], numbers[1::2]))[:-1] if e2 == -1 else []
+        if evidence[e][0] == 3:
+            ahead = [(evidence[e][1], evidence[e2][1])]
+        found.add(number)
+        for a, b in ahead:
+            found.update(slow_needs(evidence, made[:number], a, b))
+    return sorted(found)
+
+
+def slow_whynot(people, evidence, x, y):
+    """What whynot answers where evidence doesn't clash, and x isn't y."""
+    evidence = evidence + [same(x, y)]
+    clash = slow_clash(people, evidence)
+    if not clash:
+        return [0]
+    made = slow_joins(people, evidence)[0]
+    needed = slow_needs(evidence, made, *clash_two(evidence, clash))
+    return [1] + list(clash) + [len(needed)] + [part for number in needed for part in made[number][:2]]
+
+
+def slow_check(people, evidence, x, y, row):
+    """What check answers to an even number of numbers."""
+    group = {a: {a} for a in range(people)}
+    pairs = list(zip(row[::2], row[1::2]))
+    for place, (e, e2) in enumerate(pairs):
+        there = range(len(evidence))
+        two = None
+        if e in there and e2 == -1 and evidence[e][0] in (1, 6, 7):
+            numbers = evidence[e][1:]
+            if all(b in group[a] for a, b in zip(numbers[:-2:2], numbers[1:-2:2])):
+                two = numbers[-2:]
+        if e in there and e2 in there and e2 > e and evidence[e][0] == evidence[e2][0]:
+            if evidence[e][0] == 4 and evidence[e][2:] == evidence[e2][2:]:
+                two = (evidence[e][1], evidence[e2][1])
+            if evidence[e][0] == 3 and evidence[e][2] == evidence[e2][2] and evidence[e][1] in group[evidence[e2][1]]:
+                two = (evidence[e][3], evidence[e2][3])
+        if two is None:
+            return [0, place]
+        whole = group[two[0]] | group[two[1]]
+        for a in whole:
+            group[a] = whole
+    return [1] if y in group[x] else [0, len(pairs)]
+
+
+def slow_core(evidence, is_so):
+    """1 and the core as a list, or 0 if it isn't so by all evidence."""
+    if not is_so(evidence):
+        return [0]
+    gone = set()
+    for e in reversed(range(len(evidence))):
+        if is_so([piece for number, piece in enumerate(evidence) if number != e and number not in gone]):
+            gone.add(e)
+    left = [e for e in range(len(evidence)) if e not in gone]
+    return [1, len(left)] + left
+
+
+def slow_linked(people, evidence, x, f):
+    group = slow_joins(people, evidence)[1]
+    found = [y for piece in evidence if piece[0] == 3 and piece[2] == f and piece[1] in group[x]
+             for y in group[piece[3]]]
+    return [1, min(found)] if found else [0]
+
+
+def slow_value(people, evidence, x, k):
+    group = slow_joins(people, evidence)[1]
+    found = [piece[3] for piece in evidence if piece[0] == 5 and piece[2] == k and piece[1] in group[x]]
+    return [1] + found[:1] if found else [0]
+
+
+def slow_ways(people, evidence, x, y):
+    fits = fitting(people, evidence)
+    return [len(fits), sum(grouping[x] == grouping[y] for grouping in fits)]
+
+
+def slow_answer(people, evidence, call):
+    """What a call from 9 on answers if nothing of range, -4 or -2 refuses it."""
+    kind, numbers = call[0], call[1:]
+    if kind in (12, 14):
+        if kind == 14 and numbers[0] == numbers[1]:
+            return [-5]
+        if slow_clash(people, evidence):
+            return [-8]
+    if kind == 13:
+        made, group = slow_joins(people, evidence)
+        if numbers[1] not in group[numbers[0]]:
+            return [0]
+        needed = slow_needs(evidence, made, *numbers)
+        return [1, len(needed)] + needed
+    if kind == 22 and people > 7:
+        return [-9]
+    return {
+        9: lambda: [0, *slow_clash(people, evidence)] if slow_clash(people, evidence) else [1],
+        10: lambda: slow_run(people, evidence),
+        11: lambda: run_books(people, evidence),
+        12: lambda: [quick_verdict(people, evidence, *numbers)],
+        14: lambda: slow_whynot(people, evidence, *numbers),
+        15: lambda: slow_check(people, evidence, *numbers[:2], numbers[3:]),
+        16: lambda: slow_core(evidence, lambda some: numbers[1] in slow_joins(people, some)[1][numbers[0]]),
+        17: lambda: slow_core(evidence, lambda some: slow_clash(people, some) is not None),
+        18: lambda: [quick_verdict(people, evidence[:numbers[0]], *numbers[1:])],
+        19: lambda: slow_linked(people, evidence, *numbers),
+        20: lambda: slow_value(people, evidence, *numbers),
+        21: lambda: [people, len(evidence)] + [number for piece in evidence for number in piece],
+        22: lambda: slow_ways(people, evidence, *numbers),
+    }[kind]()
+
+
+def run_books(people, evidence):
+    """The groups that the slow run leaves."""
+    found = sorted({tuple(sorted(group)) for group in slow_joins(people, evidence)[1].values()})
+    return [len(found)] + [number for group in found for number in (len(group),) + group]
 
 
 def slow_fits(people, evidence):
@@ -198,6 +412,25 @@ def some_piece(chance, people):
     if kind == 6:
         return [kind, anyone(), anyone()] + two()
     return [kind, anyone(), anyone(), anyone(), anyone()] + two()
+
+
+def some_question(chance, people, pieces):
+    """A call from 9 to 22 (not 16, 17 or 22, which a line may have few of) about some who are spoken of."""
+    def anyone():
+        return chance.randrange(people)
+
+    kind = chance.choice([9, 10, 11, 12, 12, 13, 13, 14, 14, 15, 15, 15, 18, 18, 19, 20, 21])
+    if kind in (9, 10, 11, 21):
+        return [kind]
+    if kind == 15:
+        row = [number for turn in range(chance.randrange(8))
+               for number in (chance.randint(-1, pieces), chance.choice([-1, -1, chance.randint(-2, pieces + 1)]))]
+        return check(anyone(), anyone(), *row)
+    if kind == 18:
+        return known(chance.randint(0, 30), anyone(), anyone())
+    if kind in (19, 20):
+        return [kind, anyone(), chance.randrange(3)]
+    return [kind, anyone(), anyone()]
 
 
 def some_evidence(seed, people, most):

@@ -10,11 +10,15 @@ from unittest import mock
 
 import personbooks.books
 from personbooks.books import answers
-from tests.helper import (BOOKS, FITS, RUN, both, cut, differ, drop, if_so, key, line, link, person, same, single)
+from tests.helper import (BOOKS, CLASH, FITS, RUN, TOLD, both, check, core, cut, differ, drop, if_so, key, known, line,
+                          link, linked, person, same, single, value, verdict, ways, why, whynot)
 
 LONG = line(*[person()] * 17, same(0, 1), same(0, 0), if_so(0, 1, 2, 3), both(0, 1, 2, 3, 4, 5), link(4, 0, 6),
             link(5, 0, 7), key(8, 5, 10 ** 12), key(9, 5, 10 ** 12), single(0, 0, 0), single(1, 0, 1), differ(2, 3),
-            FITS, RUN, BOOKS, drop(0), drop(29), drop(-10 ** 18), FITS, RUN, BOOKS)
+            FITS, RUN, BOOKS, drop(0), drop(29), drop(-10 ** 18), FITS, RUN, BOOKS, verdict(0, 1), why(8, 9),
+            core(8, 9), CLASH, ways(0, 1), drop(7), drop(8), whynot(2, 3), whynot(2, 2), verdict(8, 9),
+            check(8, 9, 4, 5), check(8, 9, 10 ** 18, -10 ** 18), check(8, 9, 4), check(8, 9), known(3, 2, 3),
+            linked(4, 0), value(0, 0), TOLD)
 
 
 class Interface(unittest.TestCase):
@@ -28,7 +32,7 @@ class Interface(unittest.TestCase):
         self.assertEqual({type(number) for number in given}, {int})
 
     def test_one_answer_for_each_call(self):
-        self.assertEqual(len(cut(answers(list(LONG)))), 37)
+        self.assertEqual(len(cut(answers(list(LONG)))), 55)
 
     def test_a_refusal_is_alone_and_all_else_begins_with_0_or_more(self):
         for part in cut(answers(list(LONG))):

@@ -124,6 +124,38 @@ class Language(unittest.TestCase):
                 with self.subTest(file=name, line=node.lineno):
                     self.assertIn(node.func.attr, METHODS)
 
+    def test_walked_on_the_spot(self):
+        walked = {"zip", "enumerate", "reversed", "range", "items", "keys", "values"}
+        takers = {"list", "tuple", "dict", "sorted", "sum", "any", "all", "enumerate", "zip", "min", "max"}
+
+        def is_walked(node):
+            return isinstance(node, ast.Call) and getattr(node.func, "id", getattr(node.func, "attr", "")) in walked
+
+        for name, tree in trees():
+            good = [node.iter for node in ast.walk(tree) if isinstance(node, (ast.For, ast.comprehension))]
+            good += [node.args[0] for node in ast.walk(tree)
+                     if isinstance(node, ast.Call) and getattr(node.func, "id", "") in takers and node.args]
+            for node in ast.walk(tree):
+                if is_walked(node):
+                    with self.subTest(file=name, line=node.lineno):
+                        self.assertIn(node, good)
+
+    def test_no_two_files_draw_from_one_another(self):
+        drawn = {name[:-3]: {node.module.split(".")[1] for node in tree.body if isinstance(node, ast.ImportFrom)}
+                 for name, tree in trees()}
+        while drawn:
+            free = [name for name in drawn if not drawn[name] & set(drawn)]
+            self.assertTrue(free, drawn)
+            drawn = {name: drawn[name] for name in drawn if name not in free}
+
+    def test_a_name_is_drawn_from_the_file_that_defines_it(self):
+        own = {name[:-3]: {node.name for node in tree.body if isinstance(node, (ast.FunctionDef, ast.ClassDef))}
+               | {target.id for node in tree.body if isinstance(node, ast.Assign) for target in node.targets}
+               for name, tree in trees()}
+        for name, node in nodes(ast.ImportFrom):
+            with self.subTest(file=name, line=node.lineno):
+                self.assertLessEqual({alias.name for alias in node.names}, own[node.module.split(".")[1]])
+
     def test_answers_is_written_in_books_alone(self):
         self.assertEqual([name for name, node in nodes(ast.FunctionDef) if node.name == "answers"], ["books.py"])
 

@@ -2,8 +2,8 @@
 
 import unittest
 
-from tests.helper import (BOOKS, FAR, FITS, GREATEST_VALUE, RUN, both, differ, drop, if_so, key, last, link, person,
-                          same, single, told)
+from tests.helper import (BOOKS, FAR, FITS, GREATEST_VALUE, RUN, both, changed, differ, drop, if_so, key, last, link,
+                          person, places, same, single, told)
 
 # Each call with good numbers, and the letters of its numbers: x somebody, e evidence, f, k, w as in the words.
 GOOD = (
@@ -20,24 +20,15 @@ GREATEST = {"x": 15, "e": 29, "f": 3, "k": 5, "w": GREATEST_VALUE}
 FULL = [key(0, 0, 0)] * 30
 
 
-def changed(call, place, number):
-    """The call with another number at this place (from 0, its own number not counted)."""
-    return call[:place + 1] + [number] + call[place + 2:]
-
-
-def places():
-    return [(call, place, letter) for call, letters in GOOD for place, letter in enumerate(letters)]
-
-
 class OutOfRange(unittest.TestCase):
     def test_one_below_and_one_above_and_far_out(self):
-        for call, place, letter in places():
+        for call, place, letter in places(GOOD):
             for number in (-1, GREATEST[letter] + 1, -FAR, FAR):
                 with self.subTest(call=call, place=place, number=number):
                     self.assertEqual(last(16, *FULL[:29], changed(call, place, number)), [-1])
 
     def test_the_least_and_the_greatest_are_not_refused_with_it(self):
-        for call, place, letter in places():
+        for call, place, letter in places(GOOD):
             for number in (0, GREATEST[letter]):
                 with self.subTest(call=call, place=place, number=number):
                     refused = last(16, *FULL[:29], changed(call, place, number))[0]
@@ -51,7 +42,7 @@ class OutOfRange(unittest.TestCase):
 
 class NotThere(unittest.TestCase):
     def test_somebody_not_spoken_of(self):
-        for call, place, letter in places():
+        for call, place, letter in places(GOOD):
             if letter == "x":
                 for people, number in ((2, 2), (2, 15), (15, 15)):
                     with self.subTest(call=call, place=place, people=people, number=number):
